@@ -7,7 +7,7 @@ import (
 )
 
 // wide is a whole number whose absolute value is hi * 2^64 + lo: enough for the sum
-// of two products of numbers of 64 bits.
+// of two products of numbers of 64 bits. If it is 0, neg means nothing.
 type wide struct {
 	neg    bool
 	hi, lo uint64
@@ -29,13 +29,11 @@ func gcd(a, b uint64) uint64 {
 	return a
 }
 
-// times returns x * y.
 func times(x, y int64) wide {
 	hi, lo := bits.Mul64(size(x), size(y))
-	return wide{neg: (x < 0) != (y < 0) && lo|hi != 0, hi: hi, lo: lo}
+	return wide{neg: (x < 0) != (y < 0), hi: hi, lo: lo}
 }
 
-// plus returns x + y.
 func plus(x, y wide) wide {
 	if x.neg == y.neg {
 		lo, carry := bits.Add64(x.lo, y.lo, 0)
@@ -47,15 +45,14 @@ func plus(x, y wide) wide {
 	}
 	lo, borrow := bits.Sub64(x.lo, y.lo, 0)
 	hi, _ := bits.Sub64(x.hi, y.hi, borrow)
-	return wide{neg: x.neg && lo|hi != 0, hi: hi, lo: lo}
+	return wide{neg: x.neg, hi: hi, lo: lo}
 }
 
-// bigger tells whether the absolute value of x is greater than that of y.
+// bigger compares absolute values.
 func bigger(x, y wide) bool {
 	return x.hi > y.hi || x.hi == y.hi && x.lo > y.lo
 }
 
-// order returns -1, 0 or 1 if x is less than y, equal, or greater.
 func order(x, y wide) int {
 	y.neg = !y.neg
 	d := plus(x, y)
@@ -68,12 +65,12 @@ func order(x, y wide) int {
 	return 1
 }
 
-// rest returns what is left of the absolute value of x when it is divided by d, which is not 0.
+// rest is taken of the absolute value of x; d is not 0.
 func (x wide) rest(d uint64) uint64 {
 	return bits.Rem64(x.hi, x.lo, d)
 }
 
-// over returns x / d for a d that divides x and is not 0.
+// over asks that d divides x and is not 0.
 func (x wide) over(d uint64) wide {
 	lo, _ := bits.Div64(x.hi%d, x.lo, d)
 	return wide{neg: x.neg, hi: x.hi / d, lo: lo}
@@ -84,7 +81,7 @@ func (x wide) fits() bool {
 	return x.hi == 0 && x.lo <= uint64(api.MaxFrac)
 }
 
-// number returns an x that fits.
+// number asks that x fits.
 func (x wide) number() int64 {
 	if x.neg {
 		return -int64(x.lo)
